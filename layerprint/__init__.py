@@ -1,0 +1,1 @@
+"""Layerprint: bodies of cells that are printed layer by layer."""
