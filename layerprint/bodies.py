@@ -33,9 +33,20 @@ def cells(body):
 def slice_at(body, z):
     """Tell the four rows of a layer, a text for each y."""
     held = cells(body)
-    if not _is_number(z, 0, LAST):
-        raise NoLayer("a layer is a number from 0 to 3")
+    check_layer(z)
     return tuple(_row(held, y, z) for y in range(SIDE))
+
+
+def check_layer(z):
+    """Refuse what is no number of a layer."""
+    if not is_number(z, 0, LAST):
+        raise NoLayer("a layer is a number from 0 to 3")
+
+
+def is_number(value, low, high):
+    """Tell if the value is a number from low to high."""
+    # Python counts True and False among the integers, the document does not.
+    return isinstance(value, int) and not isinstance(value, bool) and low <= value <= high
 
 
 def quarter(edge, held):
@@ -79,17 +90,11 @@ def _places_within(body):
     return []
 
 
-def _is_number(value, low, high):
-    """Tell if the value is a number from low to high."""
-    # Python counts True and False among the integers, the document does not.
-    return isinstance(value, int) and not isinstance(value, bool) and low <= value <= high
-
-
 def _is_triple(value, low, high):
     """Tell if the value is a tuple of three numbers from low to high."""
     if not isinstance(value, tuple) or len(value) != 3:
         return False
-    return all(_is_number(part, low, high) for part in value)
+    return all(is_number(part, low, high) for part in value)
 
 
 def _are_rising_cells(value):

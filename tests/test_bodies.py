@@ -5,6 +5,9 @@ from itertools import product
 import reference
 from layerprint.bodies import cells, is_body, slice_at
 from layerprint.errors import NoBody, NoLayer, Outside
+from layerprint.hanging import filled, hanging
+from layerprint.props import fewest, shows
+from layerprint.strokes import best_order, printed, strokes
 from layerprint.turning import alike, laid, turnings
 
 ROOM = sorted(product(range(4), repeat=3))
@@ -23,6 +26,13 @@ HANDED = (
     ("turnings", turnings),
     ("alike one", lambda body: alike(body, DOT)),
     ("alike other", lambda body: alike(DOT, body)),
+    ("hanging", lambda body: hanging(body, [], 0)),
+    ("filled", lambda body: filled(body, [])),
+    ("fewest", lambda body: fewest(body, 0)),
+    ("shows", lambda body: shows(body, 0, 0, 0, ((0, 0, 0), []))),
+    ("strokes", lambda body: strokes(body, 0)),
+    ("best_order", lambda body: best_order(body, 0, (0, 0))),
+    ("printed", lambda body: printed(body, (0, 0))),
 )
 
 

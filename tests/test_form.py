@@ -6,6 +6,9 @@ import pathlib
 import unittest
 
 import layerprint.bodies
+import layerprint.hanging
+import layerprint.props
+import layerprint.strokes
 import layerprint.turning
 
 PACKAGE = pathlib.Path(layerprint.__file__).parent
@@ -13,6 +16,11 @@ LIBRARY = {"heapq", "math", "itertools", "collections", "__future__"}
 INTERFACE = {
     layerprint.bodies: {"is_body": ["body"], "cells": ["body"], "slice_at": ["body", "z"]},
     layerprint.turning: {"laid": ["body"], "turnings": ["body"], "alike": ["one", "other"]},
+    layerprint.hanging: {"hanging": ["body", "props", "reach"], "filled": ["body", "props"]},
+    layerprint.props: {"fewest": ["body", "reach"], "shows": ["body", "reach", "z", "many", "paper"]},
+    layerprint.strokes: {
+        "strokes": ["body", "z"], "best_order": ["body", "z", "place"], "printed": ["body", "place"],
+    },
 }
 BUILTINS = (
     "len range enumerate zip min max sum abs sorted reversed int str bool list tuple dict set isinstance ord repr "
