@@ -239,22 +239,12 @@ class Printed(unittest.TestCase):
     def test_eight_strokes_in_each_layer(self):
         for place in ((0, 0), (2, 1)):
             far, orders = printed(MOST, place)
-            self.assertEqual(far, reference.least_way(runs_of(MOST), place))
-            self.assertEqual(far, self.empty_way(runs_of(MOST), place, orders))
-            for order in orders:
-                self.assertEqual(sorted(number for number, _ in order), list(range(8)))
+            self.assertTrue(reference.is_best(runs_of(MOST), place, far, orders), (place, far, orders))
 
     def test_well_under_a_second(self):
         begun = time.process_time()
         printed(MOST, (1, 2))
         self.assertLess(time.process_time() - begun, 1)
-
-    def empty_way(self, layers, place, orders):
-        total = 0
-        for told, order in zip(layers, orders):
-            far, place = reference.drawn(told, place, order)
-            total += far
-        return total
 
 
 class Refused(unittest.TestCase):
