@@ -49,6 +49,16 @@ def is_number(value, low, high):
     return isinstance(value, int) and not isinstance(value, bool) and low <= value <= high
 
 
+def is_rising(values):
+    """Tell if each of the values is greater than the one before."""
+    return all(values[k - 1] < values[k] for k in range(1, len(values)))
+
+
+def layer_count(held):
+    """Tell how many layers cells have, from layer 0 up to the highest one."""
+    return max([z + 1 for _, _, z in held], default=0)
+
+
 def quarter(edge, held):
     """Tell the cells, rising, that these come to be by a quarter around the edge."""
     if edge == "x":
@@ -101,7 +111,7 @@ def _are_rising_cells(value):
     """Tell if the value is a tuple of cells, rising, each once."""
     if not isinstance(value, tuple) or not all(_is_triple(part, 0, LAST) for part in value):
         return False
-    return all(value[k - 1] < value[k] for k in range(1, len(value)))
+    return is_rising(value)
 
 
 def _held(body):

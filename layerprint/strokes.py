@@ -1,6 +1,6 @@
 """Strokes: the runs of a layer, and the orders to draw them in with the least empty way."""
 
-from layerprint.bodies import LAST, SIDE, cells, is_number, slice_at
+from layerprint.bodies import LAST, SIDE, cells, is_number, layer_count, slice_at
 from layerprint.errors import BadPlace
 
 FORWARD = 0
@@ -16,7 +16,7 @@ def strokes(body, z):
 def best_order(body, z, place):
     """Tell the least empty way of all orders of a layer, and the first order that has it."""
     runs = strokes(body, z)
-    _check_place(place)
+    check_place(place)
     way, orders = _best_orders([runs], place)
     return (way, orders[0])
 
@@ -24,16 +24,34 @@ def best_order(body, z, place):
 def printed(body, place):
     """Tell the least empty way of all layers together, and the first orders that have it."""
     held = cells(body)
-    _check_place(place)
-    highest = max([cell[2] for cell in held], default=-1)
-    layers = [strokes(body, z) for z in range(highest + 1)]
+    check_place(place)
+    layers = [strokes(body, z) for z in range(layer_count(held))]
     return _best_orders(layers, place)
 
 
-def _check_place(place):
+def check_place(place):
     """Refuse what is no place of the head."""
-    if len(place) != 2 or not all(is_number(part, 0, LAST) for part in place):
+    if not is_place(place):
         raise BadPlace("a place is two numbers from 0 to 3")
+
+
+def is_place(place):
+    """Tell if the head can be there."""
+    return len(place) == 2 and all(is_number(part, 0, LAST) for part in place)
+
+
+def drawn_next(runs, done, place):
+    """Tell of each stroke that isn't done yet what drawing it next makes of it, either way about.
+
+    Told are tuples: the stroke, the steps to its beginning, what is done then, where the head is then.
+    """
+    told = []
+    for number in range(len(runs)):
+        for way in (FORWARD, BACK):
+            if number not in done:
+                start, end = _ends(runs[number], way)
+                told.append(((number, way), _steps(place, start), tuple(sorted(done + (number,))), end))
+    return told
 
 
 def _runs(row):
@@ -71,21 +89,12 @@ def _best_rest(layers, at, done, place, known):
     # Where the head is and what is left tell all: how it came to be so makes no difference.
     key = (at, done, place)
     if key not in known:
-        known[key] = min([
-            _with_stroke(layers, at, done, place, known, (number, way))
-            for number in range(len(layers[at]))
-            for way in (FORWARD, BACK)
-            if number not in done
-        ])
+        tried = []
+        for stroke, far, further, end in drawn_next(layers[at], done, place):
+            way, rest = _best_rest(layers, at, further, end, known)
+            tried.append((far + way, (stroke,) + rest))
+        known[key] = min(tried)
     return known[key]
-
-
-def _with_stroke(layers, at, done, place, known, stroke):
-    """Tell the empty way and the row of strokes that begins with this one and goes on best."""
-    number, way = stroke
-    start, end = _ends(layers[at][number], way)
-    rest_way, rest = _best_rest(layers, at, tuple(sorted(done + (number,))), end, known)
-    return (_steps(place, start) + rest_way, (stroke,) + rest)
 
 
 def _ends(run, way):

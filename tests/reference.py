@@ -221,3 +221,51 @@ def is_best(layers, place, empty, orders):
             far += more
             done = (*done, stroke[0])
     return far == empty
+
+
+def table_shows(told, start, much, table):
+    """Point 11, word for word; told are the strokes of the layer."""
+    every = range(len(told))
+    numbers = {}
+    for done, here, number in table:
+        if any(each not in every for each in done) or list(done) != sorted(set(done)):
+            return False
+        if any(each not in range(4) for each in here) or (done, here) in numbers:
+            return False
+        numbers[done, here] = number
+    if ((), start) not in numbers or numbers[(), start] < much:
+        return False
+    for (done, here), number in numbers.items():
+        if set(done) == set(every) and number > 0:
+            return False
+        for each, way_about in product(set(every) - set(done), (0, 1)):
+            more, end = drawn(told, here, [(each, way_about)])
+            behind = (tuple(sorted({*done, each})), end)
+            if behind not in numbers or number > more + numbers[behind]:
+                return False
+    return True
+
+
+def text_of(found):
+    """The text of a body, row by row from layer 0 up."""
+    rows = []
+    for z in range(4):
+        if any(cell[2] >= z for cell in found):
+            rows += ["-"] if rows else []
+            rows += ["".join("#" if (x, y, z) in found else "." for x in range(4)) for y in range(4)]
+    return "\n".join(rows)
+
+
+def wrong_row(text):
+    """Point 14: the number of the row that a text is refused with; None, if it is one of a body."""
+    rows = text.split("\n") if text else []
+    for at, row in enumerate(rows):
+        y, z = at % 5, at // 5
+        fits = row == "-" if y == 4 else row in ["".join(signs) for signs in product(".#", repeat=4)]
+        if not fits or (z, y) >= (3, 4):
+            return at
+    if rows and len(rows) not in (4, 9, 14, 19):
+        return len(rows)
+    if rows and "#" not in "".join(rows[-4:]):
+        return len(rows) - 1
+    return None

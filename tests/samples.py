@@ -13,6 +13,9 @@ NO_BODY = ("no",)
 OUTSIDE = ("moved", (0, 0, -1), DOT)
 REFUSALS = (NoBody, Outside, NoLayer, NoProp, BadReach, BadPlace, BadText)
 FAR_NUMBERS = (-1, -2, 4, 5, 17, 10 ** 30, -(10 ** 30))
+BAD_REACHES = (-1, 3, 4, -2, 100, 10 ** 30, -(10 ** 30))
+PLACES = list(product(range(4), repeat=2))
+BAD_PLACES = [place for far in FAR_NUMBERS for place in ((far, 0), (far, 3), (0, far), (3, far), (far, far))]
 
 
 def as_body(listed):

@@ -3,12 +3,10 @@ import unittest
 from itertools import product
 
 import reference
+from asked import HANDED, HANDED_WRONG
 from layerprint.bodies import cells, is_body, slice_at
 from layerprint.errors import NoBody, NoLayer, Outside
-from layerprint.hanging import filled, hanging
-from layerprint.props import fewest, shows
-from layerprint.strokes import best_order, printed, strokes
-from layerprint.turning import alike, laid, turnings
+from layerprint.turning import alike
 
 ROOM = sorted(product(range(4), repeat=3))
 DOT = ("block", (0, 0, 0), (1, 1, 1))
@@ -17,23 +15,6 @@ BAR = ("block", (0, 0, 0), (3, 1, 1))
 POST = ("block", (1, 0, 0), (1, 1, 3))
 OUT_BLOCK = ("block", (3, 0, 0), (2, 1, 1))
 OUT_MOVED = ("moved", (0, 0, -1), DOT)
-
-# Each function that is handed a body, and its call with one.
-HANDED = (
-    ("cells", cells),
-    ("slice_at", lambda body: slice_at(body, 0)),
-    ("laid", laid),
-    ("turnings", turnings),
-    ("alike one", lambda body: alike(body, DOT)),
-    ("alike other", lambda body: alike(DOT, body)),
-    ("hanging", lambda body: hanging(body, [], 0)),
-    ("filled", lambda body: filled(body, [])),
-    ("fewest", lambda body: fewest(body, 0)),
-    ("shows", lambda body: shows(body, 0, 0, 0, ((0, 0, 0), []))),
-    ("strokes", lambda body: strokes(body, 0)),
-    ("best_order", lambda body: best_order(body, 0, (0, 0))),
-    ("printed", lambda body: printed(body, (0, 0))),
-)
 
 
 def chain(many, inner=DOT):
@@ -52,9 +33,60 @@ def joined(many):
     return body
 
 
+def spread(many):
+    """A body of so many bodies, an odd number, as evenly spread as can be."""
+    if many == 1:
+        return DOT
+    one = (many // 2 - 1) // 2 * 2 + 1
+    return ("with", spread(one), spread(many - 1 - one))
+
+
+def around(inner):
+    """Bodies, by a word or two, that have this one in each of the places that a body has for others."""
+    return {
+        "with, the one": ("with", inner, DOT),
+        "with, the other": ("with", DOT, inner),
+        "common, the one": ("common", inner, EMPTY),
+        "common, the other": ("common", EMPTY, inner),
+        "less, the one": ("less", inner, ("block", (0, 0, 0), (4, 4, 4))),
+        "less, the other": ("less", EMPTY, inner),
+        "less, both": ("less", inner, inner),
+        "moved": ("moved", (0, 0, 0), inner),
+        "moved back along x": ("moved", (1, 0, 0), inner),
+        "moved back along y": ("moved", (0, -1, 0), inner),
+        "moved back along z": ("moved", (0, 0, -1), inner),
+        "turned x": ("turned", "x", inner),
+        "turned y": ("turned", "y", inner),
+        "turned z": ("turned", "z", inner),
+        "deep within": ("turned", "z", ("less", DOT, ("common", BAR, ("moved", (0, 0, 0), ("with", inner, DOT))))),
+    }
+
+
+def some_out():
+    """Bodies that leave the room themselves, along each edge, in both directions, more or less far."""
+    told = []
+    for edge, far in product(range(3), (-3, -2, -1, 1, 2, 3)):
+        one_step = tuple(far if k == edge else 0 for k in range(3))
+        near = 0 if far < 0 else 3
+        told.append(("moved", one_step, ("cells", ((near,) * 3,))))
+        # Of two cells only one leaves.
+        told.append(("moved", one_step, ("block", (0, 0, 0), tuple(4 if k == edge else 1 for k in range(3)))))
+        if far > 0:
+            corner = tuple(4 - far if k == edge else 1 for k in range(3))
+            told.append(("block", corner, tuple(far + 1 if k == edge else 2 for k in range(3))))
+    return told
+
+
 NO_BODIES = {
     "nothing": (),
     "a word alone": ("block",),
+    "cells without cells": ("cells",),
+    "with alone": ("with",),
+    "moved alone": ("moved",),
+    "turned alone": ("turned",),
+    "a text in a tuple": ("",),
+    "numbers alone": (0, 0, 0),
+    "a tuple of an empty one": ((),),
     "no word": (3, (0, 0, 0), (1, 1, 1)),
     "a tuple as its word": ((), (0, 0, 0), (1, 1, 1)),
     "a body as its word": (DOT, DOT),
@@ -70,6 +102,10 @@ NO_BODIES = {
     "common of one": ("common", DOT),
     "less of one": ("less", DOT),
     "with of three": ("with", DOT, DOT, DOT),
+    "common of three": ("common", DOT, DOT, DOT),
+    "less of three": ("less", DOT, DOT, DOT),
+    "moved with an edge": ("moved", "x", DOT),
+    "turned by a step": ("turned", (1, 0, 0), DOT),
     "moved without a body": ("moved", (0, 0, 0)),
     "moved with two": ("moved", (0, 0, 0), DOT, DOT),
     "turned without a body": ("turned", "x"),
@@ -134,25 +170,25 @@ NO_BODIES = {
     "no edge": ("turned", "", DOT),
     "edge is a number": ("turned", 0, DOT),
     "edge is a tuple": ("turned", ("x",), DOT),
-    "a number as the one": ("with", 0, DOT),
-    "a number as the other": ("with", DOT, 0),
-    "a text as the one": ("common", "cells", DOT),
-    "a text as the other": ("common", DOT, "cells"),
-    "an empty tuple as the one": ("less", (), DOT),
-    "an empty tuple as the other": ("less", DOT, ()),
     "a cell as the other": ("less", DOT, (0, 0, 0)),
-    "a number moved": ("moved", (0, 0, 0), 0),
     "a cell moved": ("moved", (0, 0, 0), (0, 0, 0)),
-    "a text turned": ("turned", "x", "x"),
-    "an empty tuple turned": ("turned", "x", ()),
     "a wrong word deep within": chain(5, ("with", DOT, ("turned", "x", ("bloc", (0, 0, 0), (1, 1, 1))))),
     "21 within one another": chain(21),
     "21 side by side": joined(21),
+    "21 spread": spread(21),
+    "21 in a chain above a spread": chain(3, spread(19)),
+    "a number as a body of 20": chain(20, 0),
     "22 bodies": chain(22),
     "the same body 11 times": joined(23),
     "far too many": chain(30000),
     "a cell that is far too deep": ("cells", (chain(30000),)),
 }
+
+# What is no body is none in any place of another one either.
+TAKEN = {"a number": 0, "another number": 7, "a text": "cells", "an empty text": "", "an empty tuple": ()}
+NO_BODIES.update({
+    f"{what}: {where}": body for what, inner in TAKEN.items() for where, body in around(inner).items()
+})
 
 OUTSIDE = {
     "block leaves along x": ("block", (3, 0, 0), (2, 1, 1)),
@@ -332,13 +368,25 @@ class Limits(unittest.TestCase):
         self.assertTrue(is_body(chain(20)))
         self.assertEqual(cells(chain(20)), [(0, 3, 0)])
         self.assertTrue(is_body(joined(19)))
+        self.assertTrue(is_body(spread(19)))
         self.assertTrue(is_body(("turned", "z", joined(19))))
+        self.assertTrue(is_body(("turned", "x", spread(19))))
+        self.assertEqual(cells(("turned", "z", spread(19))), [(3, 0, 0)])
         self.assertEqual(cells(("turned", "z", joined(19))), [(3, 0, 0)])
 
+    def test_each_function_answers_of_twenty_bodies(self):
+        for body in (chain(20), ("turned", "z", joined(19)), ("turned", "z", spread(19))):
+            for name, call in HANDED:
+                with self.subTest(function=name):
+                    call(body)
+
     def test_twenty_one_bodies(self):
-        for body in (chain(21), joined(21), ("turned", "z", ("turned", "z", joined(19)))):
-            self.assertFalse(is_body(body))
-            self.assertRaises(NoBody, cells, body)
+        twice = ("turned", "z", ("turned", "z", joined(19)))
+        for body in (chain(21), joined(21), spread(21), twice, chain(21, OUT_BLOCK)):
+            self.assertIs(is_body(body), False)
+            for name, call in HANDED:
+                with self.subTest(function=name):
+                    self.assertRaises(NoBody, call, body)
 
     def test_bodies_within_count_at_both_places(self):
         self.assertTrue(is_body(("with", chain(9), chain(10))))
@@ -374,21 +422,24 @@ class NoBodies(unittest.TestCase):
                     self.assertRaises(NoBody, call, body)
 
     def test_what_holds_one_is_none(self):
-        for what in ("a wrong word", "corner with x 4", "a cell twice", "far with y -4", "another edge"):
-            inner = NO_BODIES[what]
-            for body in (
-                ("with", inner, DOT),
-                ("with", DOT, inner),
-                ("common", inner, EMPTY),
-                ("common", EMPTY, inner),
-                ("less", inner, inner),
-                ("less", EMPTY, inner),
-                ("moved", (0, 0, 0), inner),
-                ("turned", "y", inner),
-            ):
-                with self.subTest(what, outer=body[0]):
+        for what, inner in NO_BODIES.items():
+            for where, body in around(inner).items():
+                with self.subTest(what, where=where):
                     self.assertIs(is_body(body), False)
                     self.assertRaises(NoBody, cells, body)
+
+    def test_each_function_refuses_what_holds_one(self):
+        for what in ("a wrong word", "corner with x 4", "a cell twice", "far with y -4", "another edge", "21 spread"):
+            for where, body in around(NO_BODIES[what]).items():
+                for name, call in HANDED:
+                    with self.subTest(what, where=where, function=name):
+                        self.assertRaises(NoBody, call, body)
+
+    def test_they_are_refused_ahead_of_all_else(self):
+        for what, body in NO_BODIES.items():
+            for name, call in HANDED_WRONG:
+                with self.subTest(what, function=name):
+                    self.assertRaises(NoBody, call, body)
 
     def test_true_and_false_are_no_numbers(self):
         for body in (
@@ -411,6 +462,43 @@ class OutsideTheRoom(unittest.TestCase):
             for name, call in HANDED:
                 with self.subTest(what, function=name):
                     self.assertRaises(Outside, call, body)
+
+    def test_along_each_edge_and_in_both_directions(self):
+        for body in some_out():
+            with self.subTest(body):
+                self.assertIs(is_body(body), True)
+                for name, call in HANDED:
+                    self.assertRaises(Outside, call, body)
+
+    def test_within_another_body(self):
+        # Whether the outer one drops these cells, brings them back or has them still.
+        for inner in some_out():
+            for where, body in around(inner).items():
+                with self.subTest(inner, where=where):
+                    self.assertIs(is_body(body), True)
+                    self.assertRaises(Outside, cells, body)
+
+    def test_each_function_refuses_them_within_another_body(self):
+        for inner in some_out()[::7]:
+            for where, body in around(inner).items():
+                for name, call in HANDED:
+                    with self.subTest(inner, where=where, function=name):
+                        self.assertRaises(Outside, call, body)
+
+    def test_they_are_refused_ahead_of_all_else(self):
+        for body in some_out() + list(OUTSIDE.values()):
+            for name, call in HANDED_WRONG:
+                with self.subTest(body, function=name):
+                    self.assertRaises(Outside, call, body)
+
+    def test_what_stays_at_the_walls_is_inside(self):
+        for edge in range(3):
+            for far in (1, 2, 3):
+                step = tuple(far if k == edge else 0 for k in range(3))
+                back = tuple(-n for n in step)
+                there = ("moved", step, ("block", (0, 0, 0), tuple(4 - n for n in step)))
+                self.assertEqual(max(cell[edge] for cell in cells(there)), 3)
+                self.assertEqual(cells(("moved", back, there)), cells(("block", (0, 0, 0), tuple(4 - n for n in step))))
 
     def test_no_body_is_ahead_of_outside(self):
         for body in (

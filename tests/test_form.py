@@ -1,15 +1,19 @@
 """The form of the package: its interface, and those rules of the language that a test can see."""
 
 import ast
+import builtins
 import inspect
 import pathlib
 import unittest
 
 import layerprint.bodies
 import layerprint.hanging
+import layerprint.notes
 import layerprint.props
 import layerprint.strokes
+import layerprint.tables
 import layerprint.turning
+import layerprint.upright
 
 PACKAGE = pathlib.Path(layerprint.__file__).parent
 LIBRARY = {"heapq", "math", "itertools", "collections", "__future__"}
@@ -21,6 +25,9 @@ INTERFACE = {
     layerprint.strokes: {
         "strokes": ["body", "z"], "best_order": ["body", "z", "place"], "printed": ["body", "place"],
     },
+    layerprint.tables: {"table": ["body", "z", "place"], "holds": ["body", "z", "place", "much", "told"]},
+    layerprint.upright: {"best": ["body", "reach"]},
+    layerprint.notes: {"written": ["body"], "read": ["text"]},
 }
 BUILTINS = (
     "len range enumerate zip min max sum abs sorted reversed int str bool list tuple dict set isinstance ord repr "
@@ -79,6 +86,27 @@ class Form(unittest.TestCase):
                     self.assertEqual(node.level, 0, path)
                     self.assertTrue(top == "layerprint" or top in LIBRARY, (path, node.module))
                     self.assertTrue(all(each.asname is None and each.name != "*" for each in node.names), path)
+
+    def test_no_own_name_is_one_of_an_import_or_a_builtin(self):
+        for path, tree in trees():
+            nodes = list(ast.walk(tree))
+            taken = {each.name for node in nodes if isinstance(node, ast.ImportFrom) for each in node.names}
+            taken.update(dir(builtins))
+            own = {node.arg for node in nodes if isinstance(node, ast.arg)}
+            own.update(node.id for node in nodes if isinstance(node, ast.Name) and isinstance(node.ctx, ast.Store))
+            own.update(node.name for node in nodes if isinstance(node, ast.FunctionDef) and node.name != "__init__")
+            self.assertEqual(own & taken, set(), path)
+
+    def test_no_two_files_import_from_each_other(self):
+        wanted = {}
+        for path, tree in trees():
+            nodes = [node for node in ast.walk(tree) if isinstance(node, ast.ImportFrom)]
+            wanted[path.stem] = {node.module.split(".")[-1] for node in nodes}
+        while wanted:
+            free = [name for name, others in wanted.items() if not others & set(wanted)]
+            self.assertTrue(free, wanted)
+            for name in free:
+                del wanted[name]
 
     def test_no_floats_no_percent_no_other_statements(self):
         banned = (ast.Div, ast.Global, ast.AsyncFunctionDef, ast.Await)

@@ -5,7 +5,7 @@ import reference
 from layerprint.errors import BadReach, NoBody, NoProp, Outside
 from layerprint.hanging import filled, hanging
 from samples import (
-    DOT, EMPTY, FULL, NO_BODY, OUTSIDE, ROOM, as_body, assert_refused, drawn_layer, many_cells,
+    BAD_REACHES, DOT, EMPTY, FULL, NO_BODY, OUTSIDE, ROOM, as_body, assert_refused, drawn_layer, many_cells,
 )
 
 # A post at the corner, and a row of four on top of it.
@@ -13,7 +13,6 @@ GALLOWS = as_body([(0, 0, 0), (0, 0, 1), (1, 0, 1), (2, 0, 1), (3, 0, 1)])
 # A floor over nothing, with a cell of its own over the ground further down.
 SHELF = as_body([(0, 0, 0), (0, 0, 3), (1, 0, 3), (2, 0, 1), (2, 0, 3)])
 BRIDGE = as_body(drawn_layer(0, "#..#") + drawn_layer(1, "####"))
-BAD_REACHES = (-1, 3, 4, -2, 100, 10 ** 30, -(10 ** 30))
 
 
 class Carried(unittest.TestCase):

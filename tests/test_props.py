@@ -8,7 +8,8 @@ import reference
 from layerprint.errors import BadReach, NoBody, NoLayer, Outside
 from layerprint.props import fewest, shows
 from samples import (
-    DOT, EMPTY, FAR_NUMBERS, FULL, NO_BODY, OUTSIDE, ROOM, as_body, assert_refused, drawn_layer, many_cells,
+    BAD_REACHES, DOT, EMPTY, FAR_NUMBERS, FULL, NO_BODY, OUTSIDE, ROOM, as_body, assert_refused, drawn_layer,
+    many_cells,
 )
 
 ONE = as_body([(2, 1, 1)])
@@ -25,7 +26,6 @@ TOWER = as_body(
 )
 SAMPLES = [as_body(listed) for listed in many_cells(31, 30)]
 ALL = [EMPTY, FULL, DOT, ONE, PAIR, ROW, OVER, CHECKED, PLATE, TABLE, TOWER] + SAMPLES
-BAD_REACHES = (-1, 3, 4, -2, 100, 10 ** 30, -(10 ** 30))
 
 
 def found_of(body):

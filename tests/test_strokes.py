@@ -7,12 +7,11 @@ import reference
 from layerprint.errors import BadPlace, NoBody, NoLayer, Outside
 from layerprint.strokes import best_order, printed, strokes
 from samples import (
-    DOT, EMPTY, FAR_NUMBERS, FULL, NO_BODY, OUTSIDE, as_body, assert_refused, drawn_layer, many_cells,
+    BAD_PLACES, DOT, EMPTY, FAR_NUMBERS, FULL, NO_BODY, OUTSIDE, PLACES, as_body, assert_refused, drawn_layer,
+    many_cells,
 )
 
-PLACES = list(product(range(4), repeat=2))
 CORNERS = [(0, 0), (3, 0), (0, 3), (3, 3)]
-BAD_PLACES = [place for far in FAR_NUMBERS for place in ((far, 0), (far, 3), (0, far), (3, far), (far, far))]
 SIX = drawn_layer(0, "##.#", ".##.", "#.##", "#...")
 SEVEN = drawn_layer(0, "#.##", "#..#", ".##.", "##.#")
 EIGHT = drawn_layer(0, "#.#.", ".#.#", "#.##", "##.#")
